@@ -1,0 +1,1 @@
+"""An eight-bit machine with five flags, run step by step."""
